@@ -9,57 +9,43 @@ import (
 	"unicode/utf8"
 
 	"transom/api"
+	"transom/sample"
 	"transom/values"
-)
-
-const (
-	sign   = 1 << 63
-	theNaN = 0x7ff8000000000000
-	inf    = 0x7ff0000000000000
-	most   = 0x7fefffffffffffff // the greatest real that is a number
-	one    = 0x3ff0000000000000
 )
 
 // kindNames holds the names of promise 4.2, each at its kind's place.
 var kindNames = []string{"null", "bool", "int", "real", "bytes", "text"}
 
 // otherNaNs holds reals of ClassNaN that do not stand for all.
-var otherNaNs = []uint64{inf | 1, 0x7ff8000000000001, 0x7fffffffffffffff, sign | inf | 1, sign | theNaN, math.MaxUint64}
+var otherNaNs = []uint64{sample.Inf | 1, 0x7ff8000000000001, 0x7fffffffffffffff, sample.Sign | sample.Inf | 1, sample.Sign | sample.TheNaN, math.MaxUint64}
 
 // strangeKinds holds kinds that are none of api's.
 var strangeKinds = []int{-1, 6, -2, 7, 8, 255, 256, 1 << 32, 1<<32 + 1, math.MaxInt, math.MinInt, math.MinInt + 1}
 
-func null() api.Value           { return api.Value{Kind: api.KindNull} }
-func truth(n int) api.Value     { return api.Value{Kind: api.KindBool, N: n} }
-func number(n int) api.Value    { return api.Value{Kind: api.KindInt, N: n} }
-func float(b uint64) api.Value  { return api.Value{Kind: api.KindReal, Bits: b} }
-func octets(s string) api.Value { return api.Value{Kind: api.KindBytes, S: s} }
-func text(s string) api.Value   { return api.Value{Kind: api.KindText, S: s} }
-
 // sorted tells values that may be, each greater than the one ahead by promise 4.1.
 func sorted() []api.Value {
-	all := []api.Value{null(), truth(0), truth(1)}
+	all := []api.Value{sample.Null(), sample.Bool(0), sample.Bool(1)}
 	for _, n := range []int{math.MinInt, math.MinInt + 1, -1 << 53, -256, -1, 0, 1, 2, 255, 256, 1 << 53, math.MaxInt - 1, math.MaxInt} {
-		all = append(all, number(n))
+		all = append(all, sample.Int(n))
 	}
 	for _, b := range []uint64{
-		sign | inf, sign | most, sign | one, sign | 2, sign | 1, sign,
-		0, 1, 2, one, one + 1, most, inf, theNaN,
+		sample.Sign | sample.Inf, sample.Sign | sample.Most, sample.Sign | sample.One, sample.Sign | 2, sample.Sign | 1, sample.Sign,
+		0, 1, 2, sample.One, sample.One + 1, sample.Most, sample.Inf, sample.TheNaN,
 	} {
-		all = append(all, float(b))
+		all = append(all, sample.Real(b))
 	}
 	x := strings.Repeat("x", 64)
 	for _, s := range []string{
 		"", "\x00", "\x00\x00", "\x00\x01", "\x01", "A", "a", "a\x00", "aa", "ab", "b",
 		x[:63], x, "\x7f", "\x80", "\xc3", "\xc3\xa4", "\xfe", "\xff", "\xff\x00", "\xff\xff", strings.Repeat("\xff", 64),
 	} {
-		all = append(all, octets(s))
+		all = append(all, sample.Bytes(s))
 	}
 	for _, s := range []string{
 		"", "\x00", "\x00\x00", "1", "10", "2", "A", "Z", "a", "a\x00", "aa", "ab", "b", "ba",
 		x[:62], x[:63], x, "x" + "y", "\x7f", "\xc2\x80", "\xc3\xa4", "\xed\x9f\xbf", "\xee\x80\x80", "\xf4\x8f\xbf\xbf",
 	} {
-		all = append(all, text(s))
+		all = append(all, sample.Text(s))
 	}
 	return all
 }
@@ -68,7 +54,7 @@ func sorted() []api.Value {
 func mixed() []api.Value {
 	kinds := []int{math.MinInt, -1, 0, 1, 2, 3, 4, 5, 6, math.MaxInt}
 	ns := []int{math.MinInt, -1, 0, 1, 2, math.MaxInt}
-	bits := []uint64{0, 1, one, inf, theNaN, inf | 1, sign, sign | theNaN, math.MaxUint64}
+	bits := []uint64{0, 1, sample.One, sample.Inf, sample.TheNaN, sample.Inf | 1, sample.Sign, sample.Sign | sample.TheNaN, math.MaxUint64}
 	long := strings.Repeat("m", 65)
 	texts := []string{"", "m", "\xff", "\xc3", "\x00", long[:63], long[:64], long, long[:63] + "\xff", long[:64] + "\xff"}
 	var all []api.Value
@@ -98,7 +84,7 @@ func checkOf(v api.Value) api.Errno {
 	if v.Kind == api.KindBool && v.N != 0 && v.N != 1 {
 		return api.ErrRange
 	}
-	if hasBits && math.IsNaN(math.Float64frombits(v.Bits)) && v.Bits != theNaN {
+	if hasBits && math.IsNaN(math.Float64frombits(v.Bits)) && v.Bits != sample.TheNaN {
 		return api.ErrForm
 	}
 	if hasS && len(v.S) > 64 {
@@ -148,10 +134,10 @@ func wantCheck(t *testing.T, v api.Value, want api.Errno) {
 }
 
 func TestExamples(t *testing.T) {
-	if got := values.Cmp(truth(0), number(0)); got != -1 {
+	if got := values.Cmp(sample.Bool(0), sample.Int(0)); got != -1 {
 		t.Errorf("Cmp(false, 0) = %d", got)
 	}
-	wantCheck(t, text("\xff"), api.ErrText)
+	wantCheck(t, sample.Text("\xff"), api.ErrText)
 }
 
 func TestCheckOfValuesThatMayBe(t *testing.T) {
@@ -162,7 +148,7 @@ func TestCheckOfValuesThatMayBe(t *testing.T) {
 
 func TestCheckOfStrangeKinds(t *testing.T) {
 	for _, kind := range strangeKinds {
-		for _, v := range []api.Value{{}, {N: 1}, {N: -1}, {Bits: 1}, {Bits: inf | 1}, {S: "s"}, {S: "\xff"}, {N: 2, Bits: 2, S: strings.Repeat("s", 65)}} {
+		for _, v := range []api.Value{{}, {N: 1}, {N: -1}, {Bits: 1}, {Bits: sample.Inf | 1}, {S: "s"}, {S: "\xff"}, {N: 2, Bits: 2, S: strings.Repeat("s", 65)}} {
 			v.Kind = kind
 			wantCheck(t, v, api.ErrKind)
 		}
@@ -172,10 +158,10 @@ func TestCheckOfStrangeKinds(t *testing.T) {
 // Each kind with a value that may be, and that value with one field more that its kind does not have.
 func TestCheckOfFieldsThatAKindDoesNotHave(t *testing.T) {
 	ns := []int{1, -1, 2, math.MinInt, math.MaxInt}
-	bits := []uint64{1, one, sign, inf, theNaN, inf | 1}
+	bits := []uint64{1, sample.One, sample.Sign, sample.Inf, sample.TheNaN, sample.Inf | 1}
 	texts := []string{"s", "\x00", "\xff", strings.Repeat("s", 65)}
 	for _, v := range []api.Value{
-		null(), truth(0), truth(1), number(0), number(7), float(0), float(one), octets(""), octets("o"), text(""), text("t"),
+		sample.Null(), sample.Bool(0), sample.Bool(1), sample.Int(0), sample.Int(7), sample.Real(0), sample.Real(sample.One), sample.Bytes(""), sample.Bytes("o"), sample.Text(""), sample.Text("t"),
 	} {
 		wantCheck(t, v, api.OK)
 		hasN := v.Kind == api.KindBool || v.Kind == api.KindInt
@@ -204,14 +190,14 @@ func TestCheckOfFieldsThatAKindDoesNotHave(t *testing.T) {
 
 func TestCheckOfTruths(t *testing.T) {
 	for _, n := range []int{-1, 2, 3, 256, 1 << 32, 1<<32 + 1, math.MinInt, math.MinInt + 1, math.MaxInt} {
-		wantCheck(t, truth(n), api.ErrRange)
-		wantCheck(t, number(n), api.OK)
+		wantCheck(t, sample.Bool(n), api.ErrRange)
+		wantCheck(t, sample.Int(n), api.OK)
 	}
 }
 
 func TestCheckOfOtherNaNs(t *testing.T) {
 	for _, b := range otherNaNs {
-		wantCheck(t, float(b), api.ErrForm)
+		wantCheck(t, sample.Real(b), api.ErrForm)
 	}
 }
 
@@ -222,13 +208,13 @@ func TestCheckOfSizes(t *testing.T) {
 	}{
 		{0, api.OK}, {1, api.OK}, {63, api.OK}, {64, api.OK}, {65, api.ErrLimit}, {66, api.ErrLimit}, {128, api.ErrLimit}, {1 << 16, api.ErrLimit},
 	} {
-		wantCheck(t, octets(strings.Repeat("\xff", c.size)), c.want)
-		wantCheck(t, text(strings.Repeat("t", c.size)), c.want)
+		wantCheck(t, sample.Bytes(strings.Repeat("\xff", c.size)), c.want)
+		wantCheck(t, sample.Text(strings.Repeat("t", c.size)), c.want)
 	}
 	// The limit is one of bytes, not of characters.
-	wantCheck(t, text(strings.Repeat("\xc3\xa4", 32)), api.OK)
-	wantCheck(t, text(strings.Repeat("\xc3\xa4", 32)+"a"), api.ErrLimit)
-	wantCheck(t, text(strings.Repeat("\xc3\xa4", 33)), api.ErrLimit)
+	wantCheck(t, sample.Text(strings.Repeat("\xc3\xa4", 32)), api.OK)
+	wantCheck(t, sample.Text(strings.Repeat("\xc3\xa4", 32)+"a"), api.ErrLimit)
+	wantCheck(t, sample.Text(strings.Repeat("\xc3\xa4", 33)), api.ErrLimit)
 }
 
 func TestCheckOfTextsThatAreNone(t *testing.T) {
@@ -236,8 +222,8 @@ func TestCheckOfTextsThatAreNone(t *testing.T) {
 		"\x80", "\xff", "\xc3", "\xc0\x80", "a\xff", "\xffa", "\xed\xa0\x80", "\xf4\x90\x80\x80", "\xe2\x82",
 		strings.Repeat("t", 63) + "\xc3",
 	} {
-		wantCheck(t, text(s), api.ErrText)
-		wantCheck(t, octets(s), api.OK)
+		wantCheck(t, sample.Text(s), api.ErrText)
+		wantCheck(t, sample.Bytes(s), api.OK)
 	}
 }
 
@@ -247,11 +233,11 @@ func TestCheckOfTwoFaultsTellsTheFirst(t *testing.T) {
 		v    api.Value
 		want api.Errno
 	}{
-		{api.Value{Kind: -1, N: 1, Bits: inf | 1, S: long}, api.ErrKind},
-		{api.Value{Kind: 6, N: 2, Bits: inf | 1, S: long}, api.ErrKind},
+		{api.Value{Kind: -1, N: 1, Bits: sample.Inf | 1, S: long}, api.ErrKind},
+		{api.Value{Kind: 6, N: 2, Bits: sample.Inf | 1, S: long}, api.ErrKind},
 		{api.Value{Kind: api.KindBool, N: 2, Bits: 1}, api.ErrForm},
 		{api.Value{Kind: api.KindBool, N: -1, S: "s"}, api.ErrForm},
-		{api.Value{Kind: api.KindReal, N: 1, Bits: inf | 1}, api.ErrForm},
+		{api.Value{Kind: api.KindReal, N: 1, Bits: sample.Inf | 1}, api.ErrForm},
 		{api.Value{Kind: api.KindBytes, N: 1, S: long}, api.ErrForm},
 		{api.Value{Kind: api.KindBytes, Bits: 1, S: long}, api.ErrForm},
 		{api.Value{Kind: api.KindText, N: 1, S: "\xff"}, api.ErrForm},
@@ -312,16 +298,16 @@ func TestSameAndCmpOfOneField(t *testing.T) {
 
 // All reals of ClassNaN are one for Cmp, but not the same for Same.
 func TestSameAndCmpOfNaNs(t *testing.T) {
-	all := append(slices.Clone(otherNaNs), theNaN)
+	all := append(slices.Clone(otherNaNs), sample.TheNaN)
 	for _, a := range all {
 		for _, b := range all {
-			if got := values.Cmp(float(a), float(b)); got != 0 {
+			if got := values.Cmp(sample.Real(a), sample.Real(b)); got != 0 {
 				t.Errorf("Cmp of NaNs %#x and %#x = %d", a, b, got)
 			}
-			if got := values.Same(float(a), float(b)); got != (a == b) {
+			if got := values.Same(sample.Real(a), sample.Real(b)); got != (a == b) {
 				t.Errorf("Same of NaNs %#x and %#x = %t", a, b, got)
 			}
-			x, y := float(a), float(b)
+			x, y := sample.Real(a), sample.Real(b)
 			x.S, y.S = "a", "b"
 			if got := values.Cmp(x, y); got != -1 {
 				t.Errorf("Cmp(%+v, %+v) = %d", x, y, got)
@@ -331,17 +317,17 @@ func TestSameAndCmpOfNaNs(t *testing.T) {
 }
 
 func TestSameOfTheTwoZeros(t *testing.T) {
-	if values.Same(float(0), float(sign)) {
+	if values.Same(sample.Real(0), sample.Real(sample.Sign)) {
 		t.Error("0 and -0 are the same")
 	}
-	if got := values.Cmp(float(sign), float(0)); got != -1 {
+	if got := values.Cmp(sample.Real(sample.Sign), sample.Real(0)); got != -1 {
 		t.Errorf("Cmp(-0, 0) = %d", got)
 	}
 }
 
 // Values of two kinds with the same fields differ, and stand in the order of their kinds.
 func TestSameAndCmpOfTwoKinds(t *testing.T) {
-	fields := []api.Value{{}, {N: 1}, {Bits: one}, {S: "s"}, {N: 1, Bits: one, S: "s"}}
+	fields := []api.Value{{}, {N: 1}, {Bits: sample.One}, {S: "s"}, {N: 1, Bits: sample.One, S: "s"}}
 	kinds := append([]int{0, 1, 2, 3, 4, 5}, strangeKinds...)
 	for _, f := range fields {
 		for _, i := range kinds {
@@ -387,7 +373,7 @@ func TestCmpOfFieldsAgainstEachOther(t *testing.T) {
 	for _, c := range []struct{ less, more api.Value }{
 		{api.Value{Kind: 1, N: 9, Bits: 9, S: "9"}, api.Value{Kind: 2}},
 		{api.Value{Kind: 2, N: 8, Bits: 9, S: "9"}, api.Value{Kind: 2, N: 9}},
-		{api.Value{Kind: 2, N: 8, Bits: sign | 1, S: "9"}, api.Value{Kind: 2, N: 8}},
+		{api.Value{Kind: 2, N: 8, Bits: sample.Sign | 1, S: "9"}, api.Value{Kind: 2, N: 8}},
 		{api.Value{Kind: 2, N: 8, Bits: 8, S: "8"}, api.Value{Kind: 2, N: 8, Bits: 8, S: "9"}},
 	} {
 		if values.Cmp(c.less, c.more) != -1 || values.Cmp(c.more, c.less) != 1 {
@@ -397,7 +383,7 @@ func TestCmpOfFieldsAgainstEachOther(t *testing.T) {
 }
 
 func TestZero(t *testing.T) {
-	for kind, want := range []api.Value{null(), truth(0), number(0), float(0), octets(""), text("")} {
+	for kind, want := range []api.Value{sample.Null(), sample.Bool(0), sample.Int(0), sample.Real(0), sample.Bytes(""), sample.Text("")} {
 		got, err := values.Zero(kind)
 		if got != want || err != api.OK {
 			t.Errorf("Zero(%d) = %+v, %d", kind, got, err)
