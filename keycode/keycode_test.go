@@ -79,38 +79,6 @@ var written = []struct {
 	{sample.Text("\xf4\x8f\xbf\xbf"), "\x05\xf4\x8f\xbf\xbf\x00\x00"},
 }
 
-// refused holds values that may not be, and what chapter 4's Check tells of them.
-var refused = []struct {
-	v    api.Value
-	want api.Errno
-}{
-	{api.Value{Kind: -1}, api.ErrKind},
-	{api.Value{Kind: 6}, api.ErrKind},
-	{api.Value{Kind: 256}, api.ErrKind},
-	{api.Value{Kind: 256 + api.KindInt, N: 1}, api.ErrKind},
-	{api.Value{Kind: math.MinInt}, api.ErrKind},
-	{api.Value{Kind: math.MaxInt}, api.ErrKind},
-	{api.Value{Kind: api.KindNull, N: 1}, api.ErrForm},
-	{api.Value{Kind: api.KindNull, S: "s"}, api.ErrForm},
-	{api.Value{Kind: api.KindBool, Bits: 1}, api.ErrForm},
-	{api.Value{Kind: api.KindInt, S: "s"}, api.ErrForm},
-	{api.Value{Kind: api.KindReal, N: 1}, api.ErrForm},
-	{api.Value{Kind: api.KindText, Bits: 1, S: "\xff"}, api.ErrForm},
-	{sample.Bool(-1), api.ErrRange},
-	{sample.Bool(2), api.ErrRange},
-	{sample.Bool(256), api.ErrRange},
-	{sample.Real(sample.Inf | 1), api.ErrForm},
-	{sample.Real(sample.TheNaN | sample.Sign), api.ErrForm},
-	{sample.Real(math.MaxUint64), api.ErrForm},
-	{sample.Bytes(strings.Repeat("o", 65)), api.ErrLimit},
-	{sample.Bytes(strings.Repeat("\x00", 65)), api.ErrLimit},
-	{sample.Text(strings.Repeat("t", 65)), api.ErrLimit},
-	{sample.Text(strings.Repeat("t", 64) + "\xff"), api.ErrLimit},
-	{sample.Text("\xff"), api.ErrText},
-	{sample.Text("a\xc3"), api.ErrText},
-	{sample.Text("\x00\xff"), api.ErrText},
-}
-
 // all tells the values of written.
 func all() []api.Value {
 	var vs []api.Value
@@ -279,12 +247,9 @@ func TestPutOfEachBit(t *testing.T) {
 }
 
 func TestPutOfRefused(t *testing.T) {
-	for _, c := range refused {
-		if got := values.Check(c.v); got != c.want {
-			t.Fatalf("Check(%+v) = %d, want %d", c.v, got, c.want)
-		}
-		if got, err := keycode.Put(c.v); got != "" || err != c.want {
-			t.Errorf("Put(%+v) = %q, %d, want error %d", c.v, got, err, c.want)
+	for _, c := range sample.Refused() {
+		if got, err := keycode.Put(c.Value); got != "" || err != c.Err {
+			t.Errorf("Put(%+v) = %q, %d, want error %d", c.Value, got, err, c.Err)
 		}
 	}
 }
@@ -508,14 +473,14 @@ func TestRowOfRefused(t *testing.T) {
 			t.Errorf("Row(%+v) = %q, %d, want error %d", l, got, err, want)
 		}
 	}
-	for _, c := range refused {
-		wantRowError(c.want, c.v)
-		wantRowError(c.want, c.v, sample.Int(1), sample.Text("a"))
-		wantRowError(c.want, sample.Int(1), c.v, sample.Text("a"))
-		wantRowError(c.want, sample.Int(1), sample.Text("a"), c.v)
-		for _, d := range refused {
-			wantRowError(c.want, c.v, d.v)
-			wantRowError(c.want, sample.Null(), c.v, sample.Bool(1), d.v)
+	for _, c := range sample.Refused() {
+		wantRowError(c.Err, c.Value)
+		wantRowError(c.Err, c.Value, sample.Int(1), sample.Text("a"))
+		wantRowError(c.Err, sample.Int(1), c.Value, sample.Text("a"))
+		wantRowError(c.Err, sample.Int(1), sample.Text("a"), c.Value)
+		for _, d := range sample.Refused() {
+			wantRowError(c.Err, c.Value, d.Value)
+			wantRowError(c.Err, sample.Null(), c.Value, sample.Bool(1), d.Value)
 		}
 	}
 }

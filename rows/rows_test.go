@@ -73,30 +73,6 @@ var written = []struct {
 		"\x08" + strings.Repeat("\x05\x40"+text64, 8)},
 }
 
-// refused holds values that may not be, and the errors of chapter 4's Check.
-var refused = []struct {
-	v   api.Value
-	err api.Errno
-}{
-	{api.Value{Kind: 6}, api.ErrKind},
-	{api.Value{Kind: -1}, api.ErrKind},
-	{api.Value{Kind: 256}, api.ErrKind},
-	{api.Value{Kind: math.MaxInt}, api.ErrKind},
-	{api.Value{Kind: math.MinInt}, api.ErrKind},
-	{api.Value{N: 1}, api.ErrForm},
-	{api.Value{Kind: api.KindInt, S: "a"}, api.ErrForm},
-	{api.Value{Kind: api.KindText, Bits: 1}, api.ErrForm},
-	{sample.Bool(2), api.ErrRange},
-	{sample.Bool(-1), api.ErrRange},
-	{sample.Bool(256), api.ErrRange},
-	{sample.Real(sample.TheNaN + 1), api.ErrForm},
-	{sample.Real(sample.Sign | sample.TheNaN), api.ErrForm},
-	{sample.Bytes(bytes64 + "a"), api.ErrLimit},
-	{sample.Text(text64 + "a"), api.ErrLimit},
-	{sample.Text("\xff"), api.ErrText},
-	{sample.Text("a\xc3"), api.ErrText},
-}
-
 func TestPutWritesEachRowAsSaid(t *testing.T) {
 	for _, c := range written {
 		if s, err := rows.Put(c.l); s != c.s || err != api.OK {
@@ -114,20 +90,20 @@ func wantPutError(t *testing.T, l []api.Value, want api.Errno) {
 }
 
 func TestPutRefusesValuesThatMayNotBe(t *testing.T) {
-	for _, c := range refused {
-		wantPutError(t, row(c.v), c.err)
+	for _, c := range sample.Refused() {
+		wantPutError(t, row(c.Value), c.Err)
 		for place := range api.MaxCols {
 			l := nulls(api.MaxCols)
-			l[place] = c.v
-			wantPutError(t, l, c.err)
+			l[place] = c.Value
+			wantPutError(t, l, c.Err)
 		}
 	}
 }
 
 func TestPutTellsTheFirstValuesError(t *testing.T) {
-	for _, c := range refused {
-		for _, d := range refused {
-			wantPutError(t, row(sample.Int(1), c.v, sample.Null(), d.v), c.err)
+	for _, c := range sample.Refused() {
+		for _, d := range sample.Refused() {
+			wantPutError(t, row(sample.Int(1), c.Value, sample.Null(), d.Value), c.Err)
 		}
 	}
 }
@@ -135,10 +111,10 @@ func TestPutTellsTheFirstValuesError(t *testing.T) {
 func TestPutRefusesTooManyAheadOfAll(t *testing.T) {
 	for _, count := range []int{9, 10, 128, 1000} {
 		wantPutError(t, nulls(count), api.ErrLimit)
-		for _, c := range refused {
+		for _, c := range sample.Refused() {
 			for _, place := range []int{0, count / 2, count - 1} {
 				l := nulls(count)
-				l[place] = c.v
+				l[place] = c.Value
 				wantPutError(t, l, api.ErrLimit)
 			}
 		}
@@ -400,15 +376,15 @@ func TestReadOfRowsWithAByteChanged(t *testing.T) {
 	}
 }
 
-// anyRow tells a row of so many of the values of written and refused, as chance has it.
+// anyRow tells a row of so many of the values of written, and of those that may not be, as chance has it.
 func anyRow(chance *rand.Rand, count int, withRefused bool) []api.Value {
 	var pool, l []api.Value
 	for _, c := range written {
 		pool = append(pool, c.l...)
 	}
-	for _, c := range refused {
+	for _, c := range sample.Refused() {
 		if withRefused {
-			pool = append(pool, c.v)
+			pool = append(pool, c.Value)
 		}
 	}
 	for range count {

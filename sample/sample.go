@@ -2,6 +2,8 @@
 package sample
 
 import (
+	"strings"
+
 	"transom/api"
 )
 
@@ -31,3 +33,43 @@ func Bytes(s string) api.Value { return api.Value{Kind: api.KindBytes, S: s} }
 
 // Text tells a text.
 func Text(s string) api.Value { return api.Value{Kind: api.KindText, S: s} }
+
+// Wrong is a value that may not be, and the error that chapter 4's Check tells of it.
+type Wrong struct {
+	Value api.Value
+	Err   api.Errno
+}
+
+// Refused tells values that may not be: some of each kind, and of each error.
+func Refused() []Wrong {
+	return []Wrong{
+		{api.Value{Kind: -1}, api.ErrKind},
+		{api.Value{Kind: 6}, api.ErrKind},
+		{api.Value{Kind: 256}, api.ErrKind},
+		{api.Value{Kind: 256 + api.KindInt, N: 1}, api.ErrKind},
+		{api.Value{Kind: api.MinInt}, api.ErrKind},
+		{api.Value{Kind: api.MaxInt}, api.ErrKind},
+		{api.Value{Kind: api.KindNull, N: 1}, api.ErrForm},
+		{api.Value{Kind: api.KindNull, S: "s"}, api.ErrForm},
+		{api.Value{Kind: api.KindBool, Bits: 1}, api.ErrForm},
+		{api.Value{Kind: api.KindInt, S: "s"}, api.ErrForm},
+		{api.Value{Kind: api.KindReal, N: 1}, api.ErrForm},
+		{api.Value{Kind: api.KindBytes, N: 1, S: "s"}, api.ErrForm},
+		{api.Value{Kind: api.KindText, Bits: 1}, api.ErrForm},
+		{api.Value{Kind: api.KindText, Bits: 1, S: "\xff"}, api.ErrForm},
+		{Bool(-1), api.ErrRange},
+		{Bool(2), api.ErrRange},
+		{Bool(256), api.ErrRange},
+		{Real(Inf | 1), api.ErrForm},
+		{Real(TheNaN + 1), api.ErrForm},
+		{Real(Sign | TheNaN), api.ErrForm},
+		{Real(1<<64 - 1), api.ErrForm},
+		{Bytes(strings.Repeat("o", 65)), api.ErrLimit},
+		{Bytes(strings.Repeat("\x00", 65)), api.ErrLimit},
+		{Text(strings.Repeat("t", 65)), api.ErrLimit},
+		{Text(strings.Repeat("t", 64) + "\xff"), api.ErrLimit},
+		{Text("\xff"), api.ErrText},
+		{Text("a\xc3"), api.ErrText},
+		{Text("\x00\xff"), api.ErrText},
+	}
+}

@@ -250,6 +250,13 @@ func TestCheckOfTwoFaultsTellsTheFirst(t *testing.T) {
 	}
 }
 
+// The tests of the layers above lean on these values, and on their errors.
+func TestCheckOfRefused(t *testing.T) {
+	for _, c := range sample.Refused() {
+		wantCheck(t, c.Value, c.Err)
+	}
+}
+
 func TestCheckOfMixed(t *testing.T) {
 	for _, v := range mixed() {
 		wantCheck(t, v, checkOf(v))
