@@ -1,4 +1,4 @@
-// Package sample makes values for the tests of all layers; no layer calls it. It asks nothing of what it is given, so that values that may not be can be made, too.
+// Package sample makes values and tables for the tests of all layers; no layer calls it. It asks nothing of what it is given, so that what may not be can be made, too.
 package sample
 
 import (
@@ -33,6 +33,23 @@ func Bytes(s string) api.Value { return api.Value{Kind: api.KindBytes, S: s} }
 
 // Text tells a text.
 func Text(s string) api.Value { return api.Value{Kind: api.KindText, S: s} }
+
+// Some tells values of that kind that may be: the null alone, if there is no such kind.
+func Some(kind int) []api.Value {
+	switch kind {
+	case api.KindBool:
+		return []api.Value{Bool(0), Bool(1)}
+	case api.KindInt:
+		return []api.Value{Int(0), Int(1), Int(-1), Int(api.MinInt), Int(api.MaxInt)}
+	case api.KindReal:
+		return []api.Value{Real(0), Real(Sign), Real(One), Real(Most), Real(Inf), Real(TheNaN)}
+	case api.KindBytes:
+		return []api.Value{Bytes(""), Bytes("\x00"), Bytes("\xff\x00\x00"), Bytes(strings.Repeat("\x00", api.MaxText))}
+	case api.KindText:
+		return []api.Value{Text(""), Text("\x00"), Text("\xc3\xa4"), Text(strings.Repeat("t", api.MaxText))}
+	}
+	return []api.Value{Null()}
+}
 
 // Wrong is a value that may not be, and the error that chapter 4's Check tells of it.
 type Wrong struct {

@@ -127,19 +127,6 @@ func TestCheckOfTables(t *testing.T) {
 	}
 }
 
-// renamed tells t by another name.
-func renamed(t api.Table, name string) api.Table {
-	t.Name = name
-	return t
-}
-
-// changed tells t with another column at that place.
-func changed(t api.Table, at int, c api.Col) api.Table {
-	t = copied(t)
-	t.Cols[at] = c
-	return t
-}
-
 // bad holds what is no table, and Check's error of it.
 var bad = []struct {
 	t   api.Table
