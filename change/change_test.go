@@ -24,6 +24,14 @@ var (
 	copied  = sample.Copied
 	alike   = sample.Alike
 	some    = sample.Some
+	refused = sample.RefusedTables
+
+	creating  = sample.Creating
+	adding    = sample.Adding
+	dropping  = sample.Dropping
+	retyping  = sample.Retyping
+	splitting = sample.Splitting
+	merging   = sample.Merging
 )
 
 // Numbers that are no Kind of a change.
@@ -71,27 +79,6 @@ func tabled(l []api.Table, at int, t api.Table) []api.Table {
 	l = copiedAll(l)
 	l[at] = t
 	return l
-}
-
-// refused holds what is no table, and the error that is told of it: one of each that Check tells, and of each field.
-var refused = []struct {
-	t   api.Table
-	err api.Errno
-}{
-	{api.Table{}, api.ErrName},
-	{renamed(plain(), "1a"), api.ErrName},
-	{renamed(plain(), sample.TooLong), api.ErrName},
-	{table("m", 1), api.ErrLimit},
-	{renamed(ints(1, 9), "m"), api.ErrLimit},
-	{renamed(ints(0, 2), "m"), api.ErrArg},
-	{renamed(ints(4, 8), "m"), api.ErrArg},
-	{renamed(ints(3, 2), "m"), api.ErrArg},
-	{table("m", 1, col("K", api.KindInt)), api.ErrName},
-	{table("m", 1, col("k", 6)), api.ErrKind},
-	{table("m", 1, with(col("k", api.KindBool), sample.Bool(2))), api.ErrRange},
-	{table("m", 1, with(col("k", api.KindInt), sample.Bool(1))), api.ErrType},
-	{table("m", 1, col("k", api.KindInt), col("k", api.KindInt)), api.ErrTwice},
-	{table("m", 1, open("k", api.KindInt)), api.ErrType},
 }
 
 func TestCheckAll(t *testing.T) {
@@ -151,15 +138,15 @@ func TestCheckAll(t *testing.T) {
 
 // A table that is none, at each place; and behind it others, whose error is not told.
 func TestCheckAllOfWhatIsNoTable(t *testing.T) {
-	for _, no := range refused {
+	for _, no := range refused() {
 		for at := range 5 {
-			l := tabled(named("a", "f", "m", "p", "z"), at, no.t)
-			if err := change.CheckAll(l); err != no.err {
-				t.Errorf("CheckAll(%+v) = %d, not %d", l, err, no.err)
+			l := tabled(named("a", "f", "m", "p", "z"), at, no.Table)
+			if err := change.CheckAll(l); err != no.Err {
+				t.Errorf("CheckAll(%+v) = %d, not %d", l, err, no.Err)
 			}
-			for _, other := range refused {
-				if err := change.CheckAll(append(l, other.t)); err != no.err {
-					t.Errorf("CheckAll(%+v) = %d, not %d", append(l, other.t), err, no.err)
+			for _, other := range refused() {
+				if err := change.CheckAll(append(l, other.Table)); err != no.Err {
+					t.Errorf("CheckAll(%+v) = %d, not %d", append(l, other.Table), err, no.Err)
 				}
 			}
 		}

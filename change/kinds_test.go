@@ -11,30 +11,6 @@ import (
 	"transom/sample"
 )
 
-func creating(def api.Table) api.Change {
-	return api.Change{Kind: api.ChangeCreate, Def: def}
-}
-
-func adding(table string, c api.Col) api.Change {
-	return api.Change{Kind: api.ChangeAdd, Table: table, Col: c}
-}
-
-func dropping(table, name string) api.Change {
-	return api.Change{Kind: api.ChangeDrop, Table: table, Name: name}
-}
-
-func retyping(table, name string, kind int) api.Change {
-	return api.Change{Kind: api.ChangeRetype, Table: table, Name: name, Type: kind}
-}
-
-func splitting(table, to, also string, names ...string) api.Change {
-	return api.Change{Kind: api.ChangeSplit, Table: table, To: to, Also: also, Names: names}
-}
-
-func merging(table, other, to string) api.Change {
-	return api.Change{Kind: api.ChangeMerge, Table: table, Other: other, To: to}
-}
-
 // picked tells a table of t's key and of those of its columns, by another name.
 func picked(t api.Table, name string, at ...int) api.Table {
 	u := table(name, t.Keys, t.Cols[:t.Keys]...)
@@ -103,11 +79,11 @@ func TestCreate(t *testing.T) {
 }
 
 func TestCreateOfWhatMayNotBe(t *testing.T) {
-	for _, no := range refused {
-		wantNone(t, nil, creating(no.t), no.err)
-		wantNone(t, named("a", "z"), creating(no.t), no.err)
-		wantNone(t, named("a", "m", "z"), creating(no.t), no.err)
-		wantNone(t, many(16), creating(no.t), no.err)
+	for _, no := range refused() {
+		wantNone(t, nil, creating(no.Table), no.Err)
+		wantNone(t, named("a", "z"), creating(no.Table), no.Err)
+		wantNone(t, named("a", "m", "z"), creating(no.Table), no.Err)
+		wantNone(t, many(16), creating(no.Table), no.Err)
 	}
 	for _, name := range list("a", "m", "z") {
 		wantNone(t, named("a", "m", "z"), creating(renamed(each(), name)), api.ErrTwice)

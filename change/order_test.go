@@ -52,11 +52,11 @@ func TestTablesThatMayNotBe(t *testing.T) {
 		wantNone(t, named("m", "a", "z"), c, api.ErrTwice)
 		wantNone(t, named("a", "z", "m"), c, api.ErrTwice)
 		wantNone(t, named("a", "a"), c, api.ErrTwice)
-		for _, no := range refused {
-			wantNone(t, list(no.t), c, no.err)
-			wantNone(t, append(named("a", "m", "z"), no.t), c, no.err)
-			wantNone(t, append(list(no.t), named("a", "m", "z")...), c, no.err)
-			wantNone(t, append(named("z", "m", "a"), no.t), c, no.err)
+		for _, no := range refused() {
+			wantNone(t, list(no.Table), c, no.Err)
+			wantNone(t, append(named("a", "m", "z"), no.Table), c, no.Err)
+			wantNone(t, append(list(no.Table), named("a", "m", "z")...), c, no.Err)
+			wantNone(t, append(named("z", "m", "a"), no.Table), c, no.Err)
 		}
 	}
 }
@@ -91,26 +91,6 @@ func TestTablesThatAreNotThere(t *testing.T) {
 	}
 }
 
-// junk tells c where the fields that its Kind does not have are those of with.
-func junk(c, with api.Change) api.Change {
-	with.Kind = c.Kind
-	switch c.Kind {
-	case api.ChangeCreate:
-		with.Def = c.Def
-	case api.ChangeAdd:
-		with.Table, with.Col = c.Table, c.Col
-	case api.ChangeDrop:
-		with.Table, with.Name = c.Table, c.Name
-	case api.ChangeRetype:
-		with.Table, with.Name, with.Type = c.Table, c.Name, c.Type
-	case api.ChangeSplit:
-		with.Table, with.To, with.Also, with.Names = c.Table, c.To, c.Also, c.Names
-	case api.ChangeMerge:
-		with.Table, with.Other, with.To = c.Table, c.Other, c.To
-	}
-	return with
-}
-
 // A Change's other fields play no part: neither where they are in order, nor where they are not.
 func TestOtherFields(t *testing.T) {
 	l := named("a", "m", "z")
@@ -122,7 +102,7 @@ func TestOtherFields(t *testing.T) {
 	}
 	for _, c := range changes {
 		for _, other := range others {
-			d := junk(c, other)
+			d := sample.Junk(c, other)
 			if a, b := change.Sources(c), change.Sources(d); !slices.Equal(a, b) {
 				t.Errorf("Sources(%+v) = %q, not %q", d, b, a)
 			}
@@ -294,105 +274,13 @@ func wantApply(l []api.Table, c api.Change) ([]api.Table, api.Errno) {
 	return to, api.OK
 }
 
-// anyOf tells one of l; now and then, one of other.
-func anyOf[T any](r *rand.Rand, l []T, other ...T) T {
-	if len(other) > 0 && r.Intn(20) == 0 {
-		l = other
-	}
-	return l[r.Intn(len(l))]
-}
-
-// Names of columns, and of tables: few, so that they are often met.
-var (
-	few  = list("k", "l", "u", "v", "w", "x", "y", "z")
-	more = list("a", "b", "c", "d", "e", "f", "g", "h", "i", "j", "k", "l", "m", "n", "o", "p", "q", "r", "s")
-)
-
-// anyCol tells a column.
-func anyCol(r *rand.Rand, name string, key bool) api.Col {
-	c := api.Col{Name: name, Kind: 1 + r.Intn(5), Null: !key && r.Intn(2) == 0}
-	if r.Intn(2) == 0 {
-		c.Default = anyOf(r, some(c.Kind))
-	}
-	return c
-}
-
-// anyTable tells a table of that name.
-func anyTable(r *rand.Rand, name string) api.Table {
-	l := slices.Clone(few)
-	r.Shuffle(len(l), func(i, j int) { l[i], l[j] = l[j], l[i] })
-	count := anyOf(r, list(1, 2, 3, 4, 5, 6, 7, 7, 8, 8))
-	t := table(name, 1+r.Intn(min(count, 3)))
-	for i := range count {
-		t.Cols = append(t.Cols, anyCol(r, l[i], i < t.Keys))
-	}
-	return t
-}
-
-// anyTables tells tables that CheckAll takes, but for a fault now and then.
-func anyTables(r *rand.Rand) []api.Table {
-	count := anyOf(r, list(0, 1, 2, 3, 4, 5, 14, 15, 16), 17)
-	l := slices.Clone(more)
-	r.Shuffle(len(l), func(i, j int) { l[i], l[j] = l[j], l[i] })
-	l = l[:count]
-	slices.Sort(l)
-	out := make([]api.Table, count)
-	for i, name := range l {
-		out[i] = anyTable(r, name)
-		if i > 0 && r.Intn(3) == 0 {
-			out[i] = renamed(out[r.Intn(i)], name) // one to be merged with
-		}
-	}
-	if count > 1 && r.Intn(30) == 0 {
-		out[r.Intn(count)].Name = anyOf(r, more, "", "1")
-	}
-	return out
-}
-
-// anyChange tells a change of tables that are there, but for a fault now and then.
-func anyChange(r *rand.Rand, l []api.Table) api.Change {
-	of := api.Table{}
-	if len(l) > 0 {
-		of = anyOf(r, l)
-	}
-	there := func() string {
-		if len(l) > 0 && r.Intn(10) > 0 {
-			return anyOf(r, l).Name
-		}
-		return anyOf(r, more)
-	}
-	column := func() string {
-		if len(of.Cols) > of.Keys && of.Keys >= 0 && r.Intn(10) > 0 {
-			return anyOf(r, of.Cols[of.Keys:]).Name
-		}
-		return anyOf(r, few)
-	}
-	c := api.Change{
-		Kind: anyOf(r, list(1, 2, 3, 4, 5, 6), 0, 7, -1), Table: of.Name, Other: there(), To: anyOf(r, more, "", "A"), Also: anyOf(r, more, "", "1"),
-		Name: column(), Type: anyOf(r, list(1, 2, 3, 4, 5), -1, 0, 6),
-		Col: anyCol(r, anyOf(r, append(slices.Clone(few), "new"), "", "1"), false), Def: anyTable(r, anyOf(r, more, "")),
-	}
-	if r.Intn(10) == 0 {
-		c.Table = there()
-	}
-	for range r.Intn(4) {
-		if name := column(); !slices.Contains(c.Names, name) || r.Intn(10) == 0 {
-			c.Names = append(c.Names, name)
-		}
-	}
-	if r.Intn(30) == 0 {
-		c.Col.Kind = r.Intn(8) - 1
-	}
-	return c
-}
-
 // Tables and changes of all kinds, faulty ones among them; and that CheckAll takes what Apply tells.
 func TestManyChanges(t *testing.T) {
 	r := rand.New(rand.NewSource(10))
 	var told [8][api.ErrNone + 1]int
 	for range 60000 {
-		l := anyTables(r)
-		c := anyChange(r, l)
+		l := sample.AnyTables(r.Intn)
+		c := sample.AnyChange(r.Intn, l)
 		want, why := wantTargets(l, c)
 		told[max(c.Kind, 0)][why]++
 		if got, err := ask(t, change.Targets, l, c); !alikeAll(got, want) || err != why {
@@ -430,7 +318,7 @@ func TestChangesInARow(t *testing.T) {
 	for range 200 {
 		var l []api.Table
 		for range 200 {
-			next, err := change.Apply(l, anyChange(r, l))
+			next, err := change.Apply(l, sample.AnyChange(r.Intn, l))
 			if err != api.OK {
 				continue
 			}

@@ -82,3 +82,29 @@ func Copied(t api.Table) api.Table {
 func Alike(a, b api.Table) bool {
 	return a.Name == b.Name && a.Keys == b.Keys && slices.Equal(a.Cols, b.Cols)
 }
+
+// WrongTable is a table that may not be, and the error that chapter 9's Check tells of it.
+type WrongTable struct {
+	Table api.Table
+	Err   api.Errno
+}
+
+// RefusedTables tells tables that may not be: one of each error that Check tells, and of each field.
+func RefusedTables() []WrongTable {
+	return []WrongTable{
+		{api.Table{}, api.ErrName},
+		{Renamed(Plain(), "1a"), api.ErrName},
+		{Renamed(Plain(), TooLong), api.ErrName},
+		{Table("m", 1), api.ErrLimit},
+		{Renamed(Ints(1, 9), "m"), api.ErrLimit},
+		{Renamed(Ints(0, 2), "m"), api.ErrArg},
+		{Renamed(Ints(4, 8), "m"), api.ErrArg},
+		{Renamed(Ints(3, 2), "m"), api.ErrArg},
+		{Table("m", 1, Col("K", api.KindInt)), api.ErrName},
+		{Table("m", 1, Col("k", 6)), api.ErrKind},
+		{Table("m", 1, With(Col("k", api.KindBool), Bool(2))), api.ErrRange},
+		{Table("m", 1, With(Col("k", api.KindInt), Bool(1))), api.ErrType},
+		{Table("m", 1, Col("k", api.KindInt), Col("k", api.KindInt)), api.ErrTwice},
+		{Table("m", 1, Open("k", api.KindInt)), api.ErrType},
+	}
+}
