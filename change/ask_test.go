@@ -6,6 +6,7 @@ import (
 
 	"transom/api"
 	"transom/change"
+	"transom/sample"
 )
 
 // call is Targets, or Apply.
@@ -16,23 +17,23 @@ const spare = "spare"
 
 // roomy tells t's columns with room behind them.
 func roomy(t api.Table) api.Table {
-	t.Cols = append(slices.Clone(t.Cols), api.Col{Name: spare}, api.Col{Name: spare})[:len(t.Cols)]
+	t.Cols = sample.Roomy(t.Cols, api.Col{Name: spare})
 	return t
 }
 
 // roomyAll tells l with room behind it, and behind each table's columns.
 func roomyAll(l []api.Table) []api.Table {
-	out := make([]api.Table, 0, len(l)+2)
-	for _, t := range l {
-		out = append(out, roomy(t))
+	out := sample.Roomy(l, api.Table{Name: spare})
+	for i, t := range l {
+		out[i] = roomy(t)
 	}
-	return append(out, api.Table{Name: spare}, api.Table{Name: spare})[:len(l)]
+	return out
 }
 
 // roomyChange tells c with room behind its lists.
 func roomyChange(c api.Change) api.Change {
 	c.Def = roomy(c.Def)
-	c.Names = append(slices.Clone(c.Names), spare, spare)[:len(c.Names)]
+	c.Names = sample.Roomy(c.Names, spare)
 	return c
 }
 
@@ -54,13 +55,6 @@ func keptChange(c, was api.Change) bool {
 	return kept(c.Def, was.Def) && slices.Equal(c.Names, was.Names) && behind[0] == spare && behind[1] == spare
 }
 
-// scribble writes to all of l's memory, up to its very end.
-func scribble[T any](l []T, what T) {
-	for i := range l[:cap(l)] {
-		l[:cap(l)][i] = what
-	}
-}
-
 // ask tells what f answers; beside that it sees to it that f changes nothing, that the answer shares no memory with what was handed in, and no two lists of it share any.
 func ask(t *testing.T, f call, l []api.Table, c api.Change) ([]api.Table, api.Errno) {
 	t.Helper()
@@ -71,12 +65,12 @@ func ask(t *testing.T, f call, l []api.Table, c api.Change) ([]api.Table, api.Er
 	}
 	answer := copiedAll(got)
 	for i := range got {
-		scribble(got[i].Cols, api.Col{Name: "scribbled"})
+		sample.Scribble(got[i].Cols, api.Col{Name: "scribbled"})
 		if !alikeAll(got[i+1:], answer[i+1:]) {
 			t.Errorf("%+v, %+v: two lists of the answer share memory", l, c)
 		}
 	}
-	scribble(got, api.Table{Name: "scribbled"})
+	sample.Scribble(got, api.Table{Name: "scribbled"})
 	if !keptAll(own, l) || !keptChange(ownChange, c) {
 		t.Errorf("%+v, %+v: the answer shares memory with them", l, c)
 	}

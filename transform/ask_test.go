@@ -17,16 +17,6 @@ var (
 	spareRow   = []api.Value{{S: "spare row"}}
 )
 
-// roomy tells l with room behind it, where spare stands.
-func roomy[T any](l []T, spare T) []T {
-	return append(slices.Clone(l), spare, spare)[:len(l)]
-}
-
-// kept tells whether l, which roomy told, is as it was, and so is what stands behind it.
-func kept[T any](l, was []T, spare T, alike func(a, b T) bool) bool {
-	return slices.EqualFunc(l[:len(l)+2], append(slices.Clone(was), spare, spare), alike)
-}
-
 // same is the language's own ==.
 func same[T comparable](a, b T) bool {
 	return a == b
@@ -42,27 +32,27 @@ type given struct {
 // roomy tells g in memory of its own, with room behind each list.
 func (g given) roomy() given {
 	own := given{g.t, g.c, make([][]api.Value, len(g.l))}
-	own.t.Cols = roomy(g.t.Cols, spareCol)
-	own.c.Names = roomy(g.c.Names, spareName)
-	own.c.Def.Cols = roomy(g.c.Def.Cols, spareCol)
+	own.t.Cols = sample.Roomy(g.t.Cols, spareCol)
+	own.c.Names = sample.Roomy(g.c.Names, spareName)
+	own.c.Def.Cols = sample.Roomy(g.c.Def.Cols, spareCol)
 	for i, r := range g.l {
-		own.l[i] = roomy(r, spareValue)
+		own.l[i] = sample.Roomy(r, spareValue)
 	}
-	own.l = roomy(own.l, spareRow)
+	own.l = sample.Roomy(own.l, spareRow)
 	return own
 }
 
 // kept tells whether g, which roomy told, is as it was.
 func (g given) kept(was given) bool {
 	for i, r := range g.l {
-		if !kept(r, was.l[i], spareValue, same) {
+		if !sample.Kept(r, was.l[i], spareValue, same) {
 			return false
 		}
 	}
-	return kept(g.t.Cols, was.t.Cols, spareCol, same) &&
-		kept(g.c.Names, was.c.Names, spareName, same) &&
-		kept(g.c.Def.Cols, was.c.Def.Cols, spareCol, same) &&
-		kept(g.l, was.l, spareRow, slices.Equal[[]api.Value])
+	return sample.Kept(g.t.Cols, was.t.Cols, spareCol, same) &&
+		sample.Kept(g.c.Names, was.c.Names, spareName, same) &&
+		sample.Kept(g.c.Def.Cols, was.c.Def.Cols, spareCol, same) &&
+		sample.Kept(g.l, was.l, spareRow, slices.Equal[[]api.Value])
 }
 
 // copiedRows tells l with rows of its own.
@@ -83,24 +73,17 @@ func copiedLists(l [][][]api.Value) [][][]api.Value {
 	return out
 }
 
-// scribble writes to all of l's memory, up to its very end.
-func scribble[T any](l []T, what T) {
-	for i := range l[:cap(l)] {
-		l[:cap(l)][i] = what
-	}
-}
-
 // scribbleRows writes to all memory of l's rows, and sees to it that none of it is another one's; then to l's own.
 func scribbleRows(t *testing.T, l [][]api.Value) {
 	t.Helper()
 	answer := copiedRows(l)
 	for i := range l {
-		scribble(l[i], api.Value{S: "scribbled"})
+		sample.Scribble(l[i], api.Value{S: "scribbled"})
 		if !alikeRows(l[i+1:], answer[i+1:]) {
 			t.Errorf("%+v: two rows of the answer share memory", answer)
 		}
 	}
-	scribble(l, list(api.Value{S: "scribbled row"}))
+	sample.Scribble(l, list(api.Value{S: "scribbled row"}))
 }
 
 // askRow tells what Row answers; beside that it sees to it that Row changes nothing, that the answer shares no memory with what was handed in, and no two lists of it share any.
