@@ -1,7 +1,6 @@
 package change_test
 
 import (
-	"slices"
 	"testing"
 
 	"transom/api"
@@ -12,66 +11,19 @@ import (
 // call is Targets, or Apply.
 type call func(l []api.Table, c api.Change) ([]api.Table, api.Errno)
 
-// spare is what stands behind the end of a list that is handed in: a call that writes there is found out.
-const spare = "spare"
-
-// roomy tells t's columns with room behind them.
-func roomy(t api.Table) api.Table {
-	t.Cols = sample.Roomy(t.Cols, api.Col{Name: spare})
-	return t
-}
-
-// roomyAll tells l with room behind it, and behind each table's columns.
-func roomyAll(l []api.Table) []api.Table {
-	out := sample.Roomy(l, api.Table{Name: spare})
-	for i, t := range l {
-		out[i] = roomy(t)
-	}
-	return out
-}
-
-// roomyChange tells c with room behind its lists.
-func roomyChange(c api.Change) api.Change {
-	c.Def = roomy(c.Def)
-	c.Names = sample.Roomy(c.Names, spare)
-	return c
-}
-
-// kept tells whether t, which roomy told, is as it was.
-func kept(t, was api.Table) bool {
-	behind := t.Cols[len(t.Cols) : len(t.Cols)+2]
-	return alike(t, was) && behind[0].Name == spare && behind[1].Name == spare
-}
-
-// keptAll tells whether l, which roomyAll told, is as it was.
-func keptAll(l, was []api.Table) bool {
-	behind := l[len(l) : len(l)+2]
-	return slices.EqualFunc(l, was, kept) && behind[0].Name == spare && behind[1].Name == spare
-}
-
-// keptChange tells whether the lists of c, which roomyChange told, are as they were.
-func keptChange(c, was api.Change) bool {
-	behind := c.Names[len(c.Names) : len(c.Names)+2]
-	return kept(c.Def, was.Def) && slices.Equal(c.Names, was.Names) && behind[0] == spare && behind[1] == spare
-}
-
 // ask tells what f answers; beside that it sees to it that f changes nothing, that the answer shares no memory with what was handed in, and no two lists of it share any.
 func ask(t *testing.T, f call, l []api.Table, c api.Change) ([]api.Table, api.Errno) {
 	t.Helper()
-	own, ownChange := roomyAll(l), roomyChange(c)
+	own, ownChange := sample.RoomyTables(l), sample.RoomyChange(c)
 	got, err := f(own, ownChange)
-	if !keptAll(own, l) || !keptChange(ownChange, c) {
+	if !sample.KeptTables(own, l) || !sample.KeptChange(ownChange, c) {
 		t.Errorf("what was handed in was changed: %+v, %+v to %+v, %+v", l, c, own, ownChange)
 	}
 	answer := copiedAll(got)
-	for i := range got {
-		sample.Scribble(got[i].Cols, api.Col{Name: "scribbled"})
-		if !alikeAll(got[i+1:], answer[i+1:]) {
-			t.Errorf("%+v, %+v: two lists of the answer share memory", l, c)
-		}
+	if !sample.TablesApart(got) {
+		t.Errorf("%+v, %+v: two lists of the answer share memory", l, c)
 	}
-	sample.Scribble(got, api.Table{Name: "scribbled"})
-	if !keptAll(own, l) || !keptChange(ownChange, c) {
+	if !sample.KeptTables(own, l) || !sample.KeptChange(ownChange, c) {
 		t.Errorf("%+v, %+v: the answer shares memory with them", l, c)
 	}
 	if err != api.OK && len(answer) != 0 {

@@ -85,6 +85,27 @@ func AnyRow(d Dice, t api.Table) []api.Value {
 	return row
 }
 
+// Spoilt tells row, which now and then has a fault: a value less or more, or one that may not be, a null, or one of another kind.
+func Spoilt(d Dice, row []api.Value) []api.Value {
+	row = slices.Clone(row)
+	fault := d(40)
+	switch {
+	case fault == 0:
+		return append(row, Int(1))
+	case len(row) == 0:
+		return row
+	case fault == 1:
+		return row[:d(len(row))]
+	case fault == 2:
+		row[d(len(row))] = Pick(d, Refused()).Value
+	case fault == 3:
+		row[d(len(row))] = Null()
+	case fault == 4:
+		row[d(len(row))] = Int(1)
+	}
+	return row
+}
+
 // AnyChange tells a change of those tables, which now and then has a fault; the fields that its Kind does not have are filled, too.
 func AnyChange(d Dice, l []api.Table) api.Change {
 	of := api.Table{}

@@ -1,4 +1,4 @@
-// Package sample makes values, tables, rows and changes, and lists with room behind them, for the tests of all layers; no layer calls it. It asks nothing of what it is given, so that what may not be can be made, too.
+// Package sample makes values, tables, rows, changes and what is asked, and lists with room behind them, for the tests of all layers; no layer calls it. It asks nothing of what it is given, so that what may not be can be made, too.
 package sample
 
 import (

@@ -1,47 +1,12 @@
 package sheet_test
 
 import (
-	"slices"
 	"testing"
 
 	"transom/api"
 	"transom/sample"
 	"transom/sheet"
 )
-
-// What stands behind the end of the lists that are handed in: a call that writes there is found out.
-var (
-	spareCol   = api.Col{Name: "spare"}
-	spareValue = api.Value{S: "spare"}
-	spareLine  = api.Line{Key: "spare", Row: []api.Value{{S: "spare row"}}}
-)
-
-// same is the language's own ==.
-func same[T comparable](a, b T) bool {
-	return a == b
-}
-
-// roomy tells s in memory of its own, with room behind each list.
-func roomy(s api.Sheet) api.Sheet {
-	s.Table.Cols = sample.Roomy(s.Table.Cols, spareCol)
-	s.Lines = sample.Roomy(s.Lines, spareLine)
-	for i := range s.Lines {
-		s.Lines[i].Row = sample.Roomy(s.Lines[i].Row, spareValue)
-	}
-	return s
-}
-
-// kept tells whether s, which roomy told, is as it was.
-func kept(s, was api.Sheet) bool {
-	for i, line := range s.Lines {
-		if !sample.Kept(line.Row, was.Lines[i].Row, spareValue, same) {
-			return false
-		}
-	}
-	return s.Table.Name == was.Table.Name && s.Table.Keys == was.Table.Keys &&
-		sample.Kept(s.Table.Cols, was.Table.Cols, spareCol, same) &&
-		sample.Kept(s.Lines, was.Lines, spareLine, lineAlike)
-}
 
 // given is what is handed in: sheets, and a row.
 type given struct {
@@ -51,16 +16,12 @@ type given struct {
 
 // roomy tells g in memory of its own, with room behind each list.
 func (g given) roomy() given {
-	own := given{row: sample.Roomy(g.row, spareValue)}
-	for _, s := range g.sheets {
-		own.sheets = append(own.sheets, roomy(s))
-	}
-	return own
+	return given{sample.RoomySheets(g.sheets), sample.RoomyRow(g.row)}
 }
 
 // kept tells whether g, which roomy told, is as it was.
 func (g given) kept(was given) bool {
-	return slices.EqualFunc(g.sheets, was.sheets, kept) && sample.Kept(g.row, was.row, spareValue, same)
+	return sample.KeptSheets(g.sheets, was.sheets) && sample.KeptRow(g.row, was.row)
 }
 
 // wantKept sees to it that g, which roomy told, is as it was; else it tells what was done.
@@ -71,51 +32,20 @@ func (g given) wantKept(t *testing.T, was given, done string) {
 	}
 }
 
-// copiedLines tells l with rows of its own.
-func copiedLines(l []api.Line) []api.Line {
-	l = slices.Clone(l)
-	for i := range l {
-		l[i].Row = slices.Clone(l[i].Row)
-	}
-	return l
-}
-
-// copied tells s in memory of its own.
-func copied(s api.Sheet) api.Sheet {
-	return api.Sheet{Table: sample.Copied(s.Table), Lines: copiedLines(s.Lines)}
-}
-
-// scribbleRows writes to all memory of l's rows, and sees to it that none of it is another one's.
+// scribbleRows writes to all memory of l, and sees to it that no two of its rows share any.
 func scribbleRows(t *testing.T, l [][]api.Value) {
 	t.Helper()
-	answer := slices.Clone(l)
-	for i := range answer {
-		answer[i] = slices.Clone(l[i])
-	}
-	for i := range l {
-		sample.Scribble(l[i], api.Value{S: "scribbled"})
-		if !rowsAlike(l[i+1:], answer[i+1:]) {
-			t.Errorf("%+v: two rows of the answer share memory", answer)
-		}
+	if !sample.RowsApart(l) {
+		t.Error("two rows of the answer share memory")
 	}
 }
 
-// scribbleLines writes to all memory of l, and sees to it that no two rows share any.
-func scribbleLines(t *testing.T, l []api.Line) {
-	t.Helper()
-	var rows [][]api.Value
-	for _, line := range l {
-		rows = append(rows, line.Row)
-	}
-	scribbleRows(t, rows)
-	sample.Scribble(l, api.Line{Key: "scribbled"})
-}
-
-// scribble writes to all memory of s, and sees to it that no two rows share any.
+// scribble writes to all memory of s, and sees to it that no two of its lists share any.
 func scribble(t *testing.T, s api.Sheet) {
 	t.Helper()
-	scribbleLines(t, s.Lines)
-	sample.Scribble(s.Table.Cols, api.Col{Name: "scribbled"})
+	if !sample.SheetsApart(list(s)) {
+		t.Error("two lists of the answer share memory")
+	}
 }
 
 // askCheck tells what Check answers; beside that it sees to it that Check changes nothing.
@@ -145,7 +75,7 @@ func askPut(t *testing.T, s api.Sheet, row []api.Value) (api.Sheet, bool, api.Er
 	own := was.roomy()
 	got, fresh, err := sheet.Put(own.sheets[0], own.row)
 	own.wantKept(t, was, "Put changed")
-	answer := copied(got)
+	answer := sample.CopiedSheet(got)
 	scribble(t, got)
 	own.wantKept(t, was, "Put's answer shares memory with what was handed in")
 	return answer, fresh, err
@@ -158,7 +88,7 @@ func askDelete(t *testing.T, s api.Sheet, key string) (api.Sheet, bool) {
 	own := was.roomy()
 	got, gone := sheet.Delete(own.sheets[0], key)
 	own.wantKept(t, was, "Delete changed")
-	answer := copied(got)
+	answer := sample.CopiedSheet(got)
 	scribble(t, got)
 	own.wantKept(t, was, "Delete's answer shares memory with what was handed in")
 	return answer, gone
@@ -171,12 +101,8 @@ func askRange(t *testing.T, s api.Sheet, lo, hi string, most int) [][]api.Value 
 	own := was.roomy()
 	got := sheet.Range(own.sheets[0], lo, hi, most)
 	own.wantKept(t, was, "Range changed")
-	answer := slices.Clone(got)
-	for i := range answer {
-		answer[i] = slices.Clone(got[i])
-	}
+	answer := sample.CopiedRows(got)
 	scribbleRows(t, got)
-	sample.Scribble(got, list(api.Value{S: "scribbled row"}))
 	own.wantKept(t, was, "Range's answer shares memory with what was handed in")
 	return answer
 }
@@ -188,8 +114,8 @@ func askMerge(t *testing.T, a, b api.Sheet) ([]api.Line, api.Errno) {
 	own := was.roomy()
 	got, err := sheet.Merge(own.sheets[0], own.sheets[1])
 	own.wantKept(t, was, "Merge changed")
-	answer := copiedLines(got)
-	scribbleLines(t, got)
+	answer := sample.CopiedLines(got)
+	scribble(t, api.Sheet{Lines: got})
 	own.wantKept(t, was, "Merge's answer shares memory with what was handed in")
 	return answer, err
 }

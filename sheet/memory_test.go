@@ -5,17 +5,9 @@ import (
 	"testing"
 
 	"transom/api"
+	"transom/sample"
 	"transom/sheet"
 )
-
-// rowsIn tells the rows of l.
-func rowsIn(l []api.Line) [][]api.Value {
-	var out [][]api.Value
-	for _, line := range l {
-		out = append(out, line.Row)
-	}
-	return out
-}
 
 // answers tells the rows of what each call answers of s, to which a row is put, of whose lines the second is deleted, and with which u is merged.
 func answers(t *testing.T, s, u api.Sheet, row []api.Value) [][][]api.Value {
@@ -28,16 +20,13 @@ func answers(t *testing.T, s, u api.Sheet, row []api.Value) [][][]api.Value {
 	if err != api.OK || !gone || why != api.OK || is || no != api.ErrType {
 		t.Fatalf("%d, %t, %d, %t, %d", err, gone, why, is, no)
 	}
-	return list(rowsIn(more.Lines), rowsIn(less.Lines), rowsIn(merged), rowsIn(asWas.Lines), rowsIn(refused.Lines), sheet.Range(s, "", "", 9))
+	return list(sample.RowsIn(more.Lines), sample.RowsIn(less.Lines), sample.RowsIn(merged), sample.RowsIn(asWas.Lines), sample.RowsIn(refused.Lines), sheet.Range(s, "", "", 9))
 }
 
 // Rows end where they end: who appends to one does not write to the next.
 func TestRowsAreCutOff(t *testing.T) {
 	for _, rows := range answers(t, three(), sheetOf(plain(), rowsOf(0, 4)...), rowsOf(9)[0]) {
-		was := slices.Clone(rows)
-		for i := range rows {
-			was[i] = slices.Clone(rows[i])
-		}
+		was := sample.CopiedRows(rows)
 		for i := range rows {
 			if r := append(rows[i], text("more")); len(r) != 3 || !rowsAlike(rows, was) {
 				t.Errorf("%+v, but %+v once one was appended to", was, rows)

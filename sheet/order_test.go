@@ -23,22 +23,6 @@ func (b book) sheet(of api.Table) api.Sheet {
 	return s
 }
 
-// anyRow tells a row that fits of; now and then, one that does not.
-func anyRow(d sample.Dice, of api.Table) []api.Value {
-	r := sample.AnyRow(d, of)
-	switch d(30) {
-	case 0:
-		return r[:d(len(r))]
-	case 1:
-		return append(r, num(1))
-	case 2:
-		r[d(len(r))] = sample.Pick(d, sample.Refused()).Value
-	case 3:
-		r[d(len(r))] = null()
-	}
-	return r
-}
-
 // anyKey tells a key of a row of of, or nearly.
 func anyKey(d sample.Dice, of api.Table) string {
 	key := keyOf(of, sample.AnyRow(d, of))
@@ -61,7 +45,7 @@ func TestManySheets(t *testing.T) {
 		of := sample.AnyTable(r.Intn, "t")
 		s, b := api.Sheet{Table: of}, book{}
 		for range 40 {
-			row := anyRow(r.Intn, of)
+			row := sample.Spoilt(r.Intn, sample.AnyRow(r.Intn, of))
 			key, why := schema.Key(of, row)
 			_, there := b[key]
 			got, is, err := askPut(t, s, row)

@@ -21,6 +21,9 @@ var (
 	ints    = sample.Ints
 	refused = sample.RefusedTables
 
+	rowsAlike = sample.RowsAlike
+	alike     = sample.SheetAlike
+
 	null = sample.Null
 	num  = sample.Int
 	text = sample.Text
@@ -108,21 +111,7 @@ func rowsOf(keys ...int) [][]api.Value {
 
 // linesAlike tells whether a and b are the same lines, bit by bit.
 func linesAlike(a, b []api.Line) bool {
-	return slices.EqualFunc(a, b, lineAlike)
-}
-
-func lineAlike(a, b api.Line) bool {
-	return a.Key == b.Key && slices.Equal(a.Row, b.Row)
-}
-
-// rowsAlike tells whether a and b are the same rows, bit by bit.
-func rowsAlike(a, b [][]api.Value) bool {
-	return slices.EqualFunc(a, b, slices.Equal[[]api.Value])
-}
-
-// alike tells whether a and b are the same sheets, bit by bit.
-func alike(a, b api.Sheet) bool {
-	return sample.Alike(a.Table, b.Table) && linesAlike(a.Lines, b.Lines)
+	return slices.EqualFunc(a, b, sample.LineAlike)
 }
 
 // The chapter's example.

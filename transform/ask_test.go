@@ -9,19 +9,6 @@ import (
 	"transom/transform"
 )
 
-// What stands behind the end of the lists that are handed in: a call that writes there is found out.
-var (
-	spareName  = "spare"
-	spareCol   = api.Col{Name: "spare"}
-	spareValue = api.Value{S: "spare"}
-	spareRow   = []api.Value{{S: "spare row"}}
-)
-
-// same is the language's own ==.
-func same[T comparable](a, b T) bool {
-	return a == b
-}
-
 // given is what is handed in.
 type given struct {
 	t api.Table
@@ -31,59 +18,29 @@ type given struct {
 
 // roomy tells g in memory of its own, with room behind each list.
 func (g given) roomy() given {
-	own := given{g.t, g.c, make([][]api.Value, len(g.l))}
-	own.t.Cols = sample.Roomy(g.t.Cols, spareCol)
-	own.c.Names = sample.Roomy(g.c.Names, spareName)
-	own.c.Def.Cols = sample.Roomy(g.c.Def.Cols, spareCol)
-	for i, r := range g.l {
-		own.l[i] = sample.Roomy(r, spareValue)
-	}
-	own.l = sample.Roomy(own.l, spareRow)
-	return own
+	return given{sample.RoomyTable(g.t), sample.RoomyChange(g.c), sample.RoomyRows(g.l)}
 }
 
 // kept tells whether g, which roomy told, is as it was.
 func (g given) kept(was given) bool {
-	for i, r := range g.l {
-		if !sample.Kept(r, was.l[i], spareValue, same) {
-			return false
-		}
-	}
-	return sample.Kept(g.t.Cols, was.t.Cols, spareCol, same) &&
-		sample.Kept(g.c.Names, was.c.Names, spareName, same) &&
-		sample.Kept(g.c.Def.Cols, was.c.Def.Cols, spareCol, same) &&
-		sample.Kept(g.l, was.l, spareRow, slices.Equal[[]api.Value])
-}
-
-// copiedRows tells l with rows of its own.
-func copiedRows(l [][]api.Value) [][]api.Value {
-	out := make([][]api.Value, len(l))
-	for i, r := range l {
-		out[i] = slices.Clone(r)
-	}
-	return out
+	return sample.KeptTable(g.t, was.t) && sample.KeptChange(g.c, was.c) && sample.KeptRows(g.l, was.l)
 }
 
 // copiedLists tells l with lists and rows of its own.
 func copiedLists(l [][][]api.Value) [][][]api.Value {
 	out := make([][][]api.Value, len(l))
 	for i, rows := range l {
-		out[i] = copiedRows(rows)
+		out[i] = sample.CopiedRows(rows)
 	}
 	return out
 }
 
-// scribbleRows writes to all memory of l's rows, and sees to it that none of it is another one's; then to l's own.
+// scribbleRows writes to all memory of l, and sees to it that no two of its rows share any.
 func scribbleRows(t *testing.T, l [][]api.Value) {
 	t.Helper()
-	answer := copiedRows(l)
-	for i := range l {
-		sample.Scribble(l[i], api.Value{S: "scribbled"})
-		if !alikeRows(l[i+1:], answer[i+1:]) {
-			t.Errorf("%+v: two rows of the answer share memory", answer)
-		}
+	if !sample.RowsApart(l) {
+		t.Error("two rows of the answer share memory")
 	}
-	sample.Scribble(l, list(api.Value{S: "scribbled row"}))
 }
 
 // askRow tells what Row answers; beside that it sees to it that Row changes nothing, that the answer shares no memory with what was handed in, and no two lists of it share any.
@@ -95,7 +52,7 @@ func askRow(t *testing.T, of api.Table, c api.Change, row []api.Value) ([][]api.
 	if !own.kept(was) {
 		t.Errorf("what was handed in was changed: %+v to %+v", was, own)
 	}
-	answer := copiedRows(got)
+	answer := sample.CopiedRows(got)
 	scribbleRows(t, got)
 	if !own.kept(was) {
 		t.Errorf("%+v: the answer shares memory with it", was)

@@ -260,19 +260,7 @@ func anyRow(d sample.Dice, t api.Table) []api.Value {
 			r[i] = sample.Pick(d, near(r[i].Kind))
 		}
 	}
-	switch d(40) {
-	case 0:
-		return r[:d(len(r))]
-	case 1:
-		return append(r, num(1))
-	case 2:
-		r[d(len(r))] = sample.Pick(d, sample.Refused()).Value
-	case 3:
-		r[d(len(r))] = null()
-	case 4:
-		r[d(len(r))] = num(1)
-	}
-	return r
+	return sample.Spoilt(d, r)
 }
 
 // Tables, changes and rows of all kinds, faulty ones among them.

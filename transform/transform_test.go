@@ -21,6 +21,8 @@ var (
 	changed = sample.Changed
 	refused = sample.RefusedTables
 
+	alikeRows = sample.RowsAlike
+
 	null = sample.Null
 	num  = sample.Int
 	text = sample.Text
@@ -69,11 +71,6 @@ func put(l []api.Value, place int, v api.Value) []api.Value {
 	l = slices.Clone(l)
 	l[place] = v
 	return l
-}
-
-// alikeRows tells whether a and b are the same rows, bit by bit.
-func alikeRows(a, b [][]api.Value) bool {
-	return slices.EqualFunc(a, b, slices.Equal[[]api.Value])
 }
 
 // alikeLists tells whether a and b are the same lists of rows.
