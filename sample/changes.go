@@ -55,3 +55,9 @@ func Junk(c, with api.Change) api.Change {
 	}
 	return with
 }
+
+// ChangeAlike tells whether a and b are the same in all, bit by bit: a list of nothing may be nil or not.
+func ChangeAlike(a, b api.Change) bool {
+	return a.Kind == b.Kind && a.Table == b.Table && a.Other == b.Other && a.To == b.To && a.Also == b.Also && a.Name == b.Name &&
+		a.Type == b.Type && slices.Equal(a.Names, b.Names) && a.Col == b.Col && Alike(a.Def, b.Def)
+}

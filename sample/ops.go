@@ -50,6 +50,12 @@ func JunkOp(o, with api.Op) api.Op {
 	return with
 }
 
+// OpAlike tells whether a and b are the same in all, bit by bit: a list of nothing may be nil or not.
+func OpAlike(a, b api.Op) bool {
+	return a.Kind == b.Kind && a.Table == b.Table && a.Max == b.Max && slices.Equal(a.Row, b.Row) && slices.Equal(a.Lo, b.Lo) && slices.Equal(a.Hi, b.Hi) &&
+		ChangeAlike(a.Change, b.Change)
+}
+
 // AnyOp tells what may be asked of those tables, which now and then has a fault; the fields that its Kind does not have are filled, too.
 func AnyOp(d Dice, l []api.Sheet) api.Op {
 	var tables []api.Table

@@ -4,6 +4,7 @@ import (
 	"transom/api"
 	"transom/keycode"
 	"transom/pack"
+	"transom/within"
 )
 
 // most is the greatest Keys and the greatest Kind that are read on: it is above all that may be, and far below what an int cannot hold.
@@ -31,10 +32,10 @@ func readTable(s string) (api.Table, string, api.Errno) {
 	if t.Name, s, err = pack.ReadText(s); err != api.OK {
 		return api.Table{}, "", err
 	}
-	if t.Keys, s, err = readUpTo(most, api.ErrArg, s); err != api.OK {
+	if t.Keys, s, err = within.Read(s, 0, most, api.ErrArg); err != api.OK {
 		return api.Table{}, "", err
 	}
-	count, s, err := readUpTo(api.MaxCols, api.ErrLimit, s)
+	count, s, err := within.Read(s, 0, api.MaxCols, api.ErrLimit)
 	if err != api.OK {
 		return api.Table{}, "", err
 	}
@@ -54,7 +55,7 @@ func readCol(s string) (api.Col, string, api.Errno) {
 	if c.Name, s, err = pack.ReadText(s); err != api.OK {
 		return api.Col{}, "", err
 	}
-	if c.Kind, s, err = readUpTo(most, api.ErrArg, s); err != api.OK {
+	if c.Kind, s, err = within.Read(s, 0, most, api.ErrArg); err != api.OK {
 		return api.Col{}, "", err
 	}
 	if c.Null, s, err = readFlag(s); err != api.OK {
@@ -64,18 +65,6 @@ func readCol(s string) (api.Col, string, api.Errno) {
 		return api.Col{}, "", err
 	}
 	return c, s, api.OK
-}
-
-// readUpTo tells the number whose bytes s begins with, and what is behind them: the error past, if it is above top.
-func readUpTo(top uint64, past api.Errno, s string) (int, string, api.Errno) {
-	n, rest, err := pack.ReadUint(s)
-	if err != api.OK {
-		return 0, "", err
-	}
-	if n > top {
-		return 0, "", past
-	}
-	return int(n), rest, api.OK
 }
 
 // readFlag tells what putFlag's byte at s's beginning says, and what is behind it.
